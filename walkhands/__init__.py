@@ -1,0 +1,1 @@
+"""Walkhands: what walkers collect together, told by shapes."""
