@@ -22,6 +22,36 @@ FUNCTIONS = {
         "border_of": ["board"],
         "board_of": ["right", "bottom"],
     },
+    "walkhands.tableaux": {
+        "is_tableau": ["rows"],
+        "chain_of": ["tableau", "letters"],
+        "tableau_of": ["chain"],
+        "insert": ["tableau", "letter"],
+        "take_out": ["tableau", "row"],
+        "pair_of": ["word"],
+        "word_of": ["first", "second"],
+        "word_of_board": ["board", "rows"],
+    },
+    "walkhands.walks": {
+        "collected": ["board", "family"],
+        "best_family": ["board", "count", "rows", "columns"],
+    },
+}
+
+METHODS = {
+    "put": ["row", "column", "amount"],
+    "insert_row": ["at", "amounts"],
+    "remove_row": ["at"],
+    "insert_column": ["at", "amounts"],
+    "remove_column": ["at"],
+    "undo": [],
+    "redo": [],
+    "board": [],
+    "shape": ["row", "column"],
+    "most": ["count", "row", "column"],
+    "grown": [],
+    "changes": [],
+    "undone": [],
 }
 
 
@@ -34,6 +64,28 @@ class TestInterface(unittest.TestCase):
                     self.assertTrue(inspect.isfunction(function))
                     self.assertEqual(function.__module__, module)
                     self.assertEqual(list(inspect.signature(function).parameters), arguments)
+
+    def test_the_bench_is_defined_in_its_file_with_its_methods(self):
+        module = importlib.import_module("walkhands.bench")
+        self.assertTrue(inspect.isclass(module.Bench))
+        self.assertEqual(module.Bench.__module__, "walkhands.bench")
+        self.assertEqual(list(inspect.signature(module.Bench).parameters), ["board"])
+        for name, arguments in METHODS.items():
+            with self.subTest(name=name):
+                self.assertIn(name, vars(module.Bench))
+                parameters = inspect.signature(vars(module.Bench)[name]).parameters
+                self.assertEqual(list(parameters), ["self"] + arguments)
+
+    def test_arguments_can_be_given_by_their_names(self):
+        bench = importlib.import_module("walkhands.bench").Bench(board=((1, 2), (3, 4)))
+        bench.put(row=1, column=2, amount=5)
+        bench.insert_row(at=1, amounts=(6, 7))
+        bench.insert_column(at=3, amounts=(8, 9, 0))
+        bench.remove_row(at=3)
+        bench.remove_column(at=1)
+        self.assertEqual(bench.board(), ((7, 8), (5, 9)))
+        self.assertEqual(bench.shape(row=1, column=2), (15,))
+        self.assertEqual(bench.most(count=1, row=2, column=2), 24)
 
 
 class TestForm(unittest.TestCase):
