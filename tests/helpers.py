@@ -1,5 +1,6 @@
 """What several tests share: small shapes, strips and boards, and the points written out again."""
 
+from functools import lru_cache
 from itertools import combinations_with_replacement, product
 
 
@@ -57,22 +58,41 @@ def mixed_board(rows, columns, seed, limit=1000):
     return tuple(board)
 
 
-def walks(rows, columns):
-    """All walks from cell (1, 1) to cell (rows, columns), as sets of cells counted from 0."""
-    if rows == 1 and columns == 1:
-        return [frozenset([(0, 0)])]
-    found = []
-    if rows > 1:
-        found += [walk | {(rows - 1, columns - 1)} for walk in walks(rows - 1, columns)]
-    if columns > 1:
-        found += [walk | {(rows - 1, columns - 1)} for walk in walks(rows, columns - 1)]
-    return found
+def all_walks(rows, columns):
+    """All walks of the rectangle as tuples, smaller ones first."""
+    return [
+        walk + (columns,) for walk in combinations_with_replacement(range(1, columns + 1), rows - 1)
+    ]
+
+
+def cells(walk):
+    """The cells that a walk visits, step by step."""
+    row, column = 1, 1
+    visited = {(1, 1)}
+    while (row, column) != (len(walk), walk[-1]):
+        if column < walk[row - 1]:
+            column += 1
+        else:
+            row += 1
+        visited.add((row, column))
+    return visited
+
+
+def worth(board, visited):
+    return sum(board[row - 1][column - 1] for row, column in visited)
+
+
+def collected_by_the_words(board, family):
+    return worth(board, set().union(*[cells(walk) for walk in family]))
+
+
+@lru_cache(maxsize=None)
+def all_visited(count, rows, columns):
+    """All sets of cells that so many walks of the rectangle visit together."""
+    ways = [frozenset(cells(walk)) for walk in all_walks(rows, columns)]
+    return {frozenset().union(*family) for family in combinations_with_replacement(ways, count)}
 
 
 def most_collected(board, count, rows, columns):
     """The most that so many walks collect together, found by trying all of them."""
-    best = 0
-    for family in combinations_with_replacement(walks(rows, columns), count):
-        cells = frozenset().union(*family)
-        best = max(best, sum(board[i][j] for i, j in cells))
-    return best
+    return max(worth(board, visited) for visited in all_visited(count, rows, columns))

@@ -6,53 +6,9 @@ import inspect
 import pathlib
 import unittest
 
+from interface import FUNCTIONS, METHODS
+
 PACKAGE = pathlib.Path(__file__).resolve().parent.parent / "walkhands"
-
-FUNCTIONS = {
-    "walkhands.shapes": {
-        "is_shape": ["row"],
-        "is_strip": ["upper", "lower"],
-        "grow": ["rho", "mu", "nu", "count"],
-        "shrink": ["mu", "nu", "shape"],
-        "is_chain": ["shapes"],
-        "toggled": ["chain", "index"],
-    },
-    "walkhands.corners": {
-        "shapes_of": ["board"],
-        "border_of": ["board"],
-        "board_of": ["right", "bottom"],
-    },
-    "walkhands.tableaux": {
-        "is_tableau": ["rows"],
-        "chain_of": ["tableau", "letters"],
-        "tableau_of": ["chain"],
-        "insert": ["tableau", "letter"],
-        "take_out": ["tableau", "row"],
-        "pair_of": ["word"],
-        "word_of": ["first", "second"],
-        "word_of_board": ["board", "rows"],
-    },
-    "walkhands.walks": {
-        "collected": ["board", "family"],
-        "best_family": ["board", "count", "rows", "columns"],
-    },
-}
-
-METHODS = {
-    "put": ["row", "column", "amount"],
-    "insert_row": ["at", "amounts"],
-    "remove_row": ["at"],
-    "insert_column": ["at", "amounts"],
-    "remove_column": ["at"],
-    "undo": [],
-    "redo": [],
-    "board": [],
-    "shape": ["row", "column"],
-    "most": ["count", "row", "column"],
-    "grown": [],
-    "changes": [],
-    "undone": [],
-}
 
 
 class TestInterface(unittest.TestCase):

@@ -3,35 +3,10 @@
 import itertools
 import unittest
 
-from helpers import boards_with, mixed_board
+from helpers import all_walks, boards_with, cells, collected_by_the_words, mixed_board
 from walkhands.corners import shapes_of
 from walkhands.errors import NotAFamily
 from walkhands.walks import best_family, collected
-
-
-def all_walks(rows, columns):
-    """All walks of the rectangle as tuples, smaller ones first."""
-    return [
-        walk + (columns,) for walk in itertools.combinations_with_replacement(range(1, columns + 1), rows - 1)
-    ]
-
-
-def cells(walk):
-    """The cells that a walk visits, step by step."""
-    row, column = 1, 1
-    visited = {(1, 1)}
-    while (row, column) != (len(walk), walk[-1]):
-        if column < walk[row - 1]:
-            column += 1
-        else:
-            row += 1
-        visited.add((row, column))
-    return visited
-
-
-def collected_by_the_words(board, family):
-    visited = set().union(*[cells(walk) for walk in family])
-    return sum(board[row - 1][column - 1] for row, column in visited)
 
 
 def best_by_trying(board, count, rows, columns):
